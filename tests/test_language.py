@@ -14,7 +14,7 @@ STATEMENTS = (
 OUT = (
     ast.Set, ast.SetComp, ast.DictComp, ast.GeneratorExp, ast.NamedExpr, ast.Starred, ast.Div, ast.Yield, ast.YieldFrom,
     ast.Await, ast.Lambda, ast.JoinedStr)
-BUILT_IN = ("len", "range", "min")
+BUILT_IN = ("len", "range", "min", "reversed")
 METHODS = ("append", "extend", "index", "pop")
 WORDS_OUT = re.compile(
     r"\b(type|typing|typing_extensions|enum|Enum|IntEnum|StrEnum|Flag|IntFlag|Generic|Protocol|ABC|ABCMeta|namedtuple"

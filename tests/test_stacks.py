@@ -82,7 +82,7 @@ class Cut(Line):
         self.check((go(1, 7, 100000, replies), told(asks, 0, 0)))
 
 
-class Pieces(unittest.TestCase):
+class Pieces(Line):
     def keep_after(self, *steps):
         keep = Keep()
         for call, numbers, replies in steps:
@@ -140,7 +140,7 @@ class Pieces(unittest.TestCase):
         parts = each_told(new(), go(1, 7, 100000, full + [calls(3, 4), new_stack(5), tells(0), returns(6), calls(3, 4)]))
         asks = [START] + [run(2, 0, 0, 0, 0)] * 2047 + [
             run(2, 1, 8, 1, 0), run(2, 2, 8, 7, 0), run(2, 3, 3, 0, 0), run(2, 1, 1, 6, 0), run(3, 0, 0, 4, 0)]
-        self.assertEqual(parts[1][1:1 + 6 * len(asks)], [number for ask in asks for number in ask])
+        self.check_same(parts[1][1:1 + 6 * len(asks)], [number for ask in asks for number in ask], "asks")
         self.assertEqual(behind_asks(parts[1]), [0, 0])
 
     def test_a_piece_that_came_back_is_taken_again(self):

@@ -26,11 +26,15 @@ class Keep:
     def is_stopped(self):
         return self.running is not None
 
-    # The stack of that number if it can be gone on with or ended, else None.
-    def cut_stack(self, number):
+    # The stack of that number, whether it's on or cut, or None.
+    def find_stack(self, number):
         if number < 0 or number >= STACKS_MOST:
             return None
-        stack = self.stacks[number]
+        return self.stacks[number]
+
+    # The stack of that number if it can be gone on with or ended, else None.
+    def cut_stack(self, number):
+        stack = self.find_stack(number)
         if stack is None or stack.on:
             return None
         return stack
